@@ -1,0 +1,16 @@
+"""The numbers that calls answer with, by name."""
+
+DONE = 0
+REFUSED = -1
+NO_GAME = -4
+
+VALUE_AWAITED = 0
+REPLY_AWAITED = 1
+LAST_WORD_AWAITED = 2
+TAKING_AWAITED = 3
+LAYING_AWAITED = 4
+DECLARATION_AWAITED = 5
+PLAYING = 6
+OVER = 7
+
+NOBODY = 3
