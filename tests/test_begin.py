@@ -4,8 +4,9 @@ import itertools
 import unittest
 
 from calling import (
-    ALONE, AWAY, BEGIN, CARDS, HANDS, LEAST, LEGAL, MOST, NEW, OTHER_CARDS, PATHS, RESULT, STATE, SURE,
-    cards_to_lay, deal, declare, ends, hand, last, lay, play, run, speak, spoken, take,
+    ALONE, AWAY, BEGIN, CARDS, GRAND_PLAYED, HANDS, LEAST, LEGAL, LOOKS, MOST, NEW, NULL_LOST, OTHER_CARDS, PATHS,
+    RESULT, STATE, SURE, cards_to_lay, deal, declare, ends, hand, in_play, last, lay, play, plays, run, speak, spoken,
+    take, told_behind,
 )
 
 ALL_BUT_BEGIN_AND_DEAL = [
@@ -18,7 +19,10 @@ TAKES = [take(yes) for yes in (0, 1, -1)]
 LAYS = [lay(*cards) for cards in (HANDS[0][:2], HANDS[1][:2], HANDS[2][:2], AWAY)]
 DECLARES = [declare(game, said) for game in range(6) for said in (0, 1, 3, 4, 7)]
 PLAYS = [play(card) for card in range(32)] + [play(-1), play(32), play(LEAST), play(MOST)]
-OWN_PHASES = ((SPEAKS, (0, 1, 2)), (TAKES, (3,)), (LAYS, (4,)), (DECLARES, (5,)), (PLAYS, (6,)))
+OWN_PHASES = (
+    (SPEAKS, (0, 1, 2)), (TAKES, (3,)), (LAYS, (4,)), (DECLARES, (5,)), (PLAYS, (6,)), ([LEGAL, SURE], (6,)),
+    ([RESULT], (7,)), ([hand(-1), hand(4), hand(LEAST), hand(MOST)], ()),
+)
 
 BAD_DEALS = [deal(CARDS[:31] + [CARDS[0]]), deal(CARDS[:31] + [32]), deal(CARDS[:31] + [255]), deal([0] * 32)]
 
@@ -30,7 +34,7 @@ WRONG_IN_PHASE = {
     3: [],
     4: [lay(HANDS[1][0], HANDS[1][0]), lay(HANDS[1][0], HANDS[0][0]), lay(-1, HANDS[1][0]), lay(HANDS[1][0], MOST)],
     5: [declare(6, 0), declare(-1, 0), declare(4, 2), declare(5, 1), declare(0, 4), declare(0, -1)],
-    6: [],
+    6: [play(card) for card in HANDS[1] + HANDS[2] + AWAY + [-1, 32, LEAST, MOST]],
     7: [],
 }
 
@@ -130,17 +134,22 @@ class Phases(unittest.TestCase):
 class RefusalsChangeNothing(unittest.TestCase):
     def test_the_game_goes_on_as_without_them(self):
         for phase, path in PATHS.items():
-            if phase == 6:
-                continue
             refused = refused_in(phase)
             self.assertEqual(ends(path, refused), [-1] * len(refused))
+            self.assertEqual(told_behind(path + refused, LOOKS), told_behind(path, LOOKS))
             for way in ways_on():
                 with self.subTest(phase=phase, way=way):
                     self.assertEqual(ends(path + refused, way), ends(path, way))
 
-    def test_in_play_too(self):
-        refused = refused_in(6)
-        self.assertEqual(ends(PATHS[6], refused + refused), [-1] * (2 * len(refused)))
+    def test_behind_a_game_that_was_played(self):
+        # Ten tricks of grand, and null that is lost with the first one.
+        for path in (
+            in_play(4) + plays(GRAND_PLAYED),
+            in_play(5) + plays(NULL_LOST),
+        ):
+            refused = refused_in(7)
+            self.assertEqual(ends(path, refused), [-1] * len(refused))
+            self.assertEqual(told_behind(path + refused, LOOKS), told_behind(path, LOOKS))
 
     def test_the_hand_is_as_it_was(self):
         for alone in range(3):

@@ -2,9 +2,7 @@
 
 import unittest
 
-from calling import (
-    ALONE, AWAY, HANDS, LEAST, MOST, PATHS, cards_to_lay, declare, ends, last, lay, take,
-)
+from calling import ALONE, AWAY, HANDS, LEAST, MOST, PATHS, cards_to_lay, declare, ends, last, lay, take
 
 
 class Take(unittest.TestCase):

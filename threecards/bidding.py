@@ -67,5 +67,6 @@ def go_on_with(game, left):
 
 def play_alone(game, who):
     game.alone = who
+    game.had = game.hands[who] | game.away
     game.phase = TAKING_AWAITED
     return game.phase

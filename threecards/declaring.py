@@ -1,12 +1,11 @@
 """What the one who plays alone does ahead of the play: the two cards, and the declaration."""
 
 from threecards.cards import holds, set_of
-from threecards.words import DECLARATION_AWAITED, LAYING_AWAITED, PLAYING, REFUSED, TAKING_AWAITED
+from threecards.words import (
+    DECLARATION_AWAITED, GAMES, LAYING_AWAITED, NULL, PLAYING, REFUSED, TAKING_AWAITED,
+)
 
-GAMES = (0, 1, 2, 3, 4, 5)
-NULL = 5
-
-# Announcements are sums: 1 schneider, 2 schwarz, 4 open.
+# Sums of what is announced: 1 schneider, 2 schwarz, 4 open.
 SAID_IN_NULL = (0, 4)
 SAID_FROM_HAND = (0, 1, 3, 7)
 SAID_WITH_CARDS_TAKEN = (0,)

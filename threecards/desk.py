@@ -3,8 +3,12 @@
 from threecards.bidding import speak
 from threecards.cards import is_whole_deck
 from threecards.declaring import declare, lay, take
+from threecards.ending import sure
 from threecards.game import Game
-from threecards.words import DONE, NO_GAME, PLAYING, REFUSED
+from threecards.playing import legal, play
+from threecards.reckoning import result
+from threecards.telling import hand, state
+from threecards.words import DONE, NO_GAME, REFUSED
 
 BEGIN = 0
 DEAL = 1
@@ -13,13 +17,13 @@ TAKE = 3
 LAY = 4
 DECLARE = 5
 PLAY = 6
+LEGAL = 7
+HAND = 8
+STATE = 9
+RESULT = 10
 
 # How many whole numbers stand behind each call's own; deal's row is reckoned apart.
 NUMBERS_TOLD = (0, 0, 1, 1, 2, 2, 1, 0, 1, 0, 0, 0)
-
-
-class NotBuilt(Exception):
-    pass
 
 
 class Desk:
@@ -33,7 +37,7 @@ def answers(calls):
     at = 0
     while at < len(calls):
         end = end_of_call(calls, at)
-        answer = [answer_call(desk, calls[at:end])]
+        answer = answer_call(desk, calls[at:end])
         given.append(len(answer))
         given.extend(answer)
         at = end
@@ -49,12 +53,14 @@ def end_of_call(calls, at):
 def answer_call(desk, call):
     if call[0] == BEGIN:
         desk.game = None
-        return DONE
+        return [DONE]
     if call[0] == DEAL:
-        return deal(desk, call[2:])
+        return [deal(desk, call[2:])]
     if desk.game is None:
-        return NO_GAME
-    return answer_in_game(desk.game, call)
+        return [NO_GAME]
+    if call[0] <= PLAY:
+        return [move(desk.game, call)]
+    return tell(desk.game, call)
 
 
 def deal(desk, cards):
@@ -64,17 +70,25 @@ def deal(desk, cards):
     return DONE
 
 
-def answer_in_game(game, call):
-    number = call[0]
-    if number == SPEAK:
+def move(game, call):
+    if call[0] == SPEAK:
         return speak(game, call[1])
-    if number == TAKE:
+    if call[0] == TAKE:
         return take(game, call[1])
-    if number == LAY:
+    if call[0] == LAY:
         return lay(game, call[1], call[2])
-    if number == DECLARE:
+    if call[0] == DECLARE:
         return declare(game, call[1], call[2])
-    if number == PLAY and game.phase != PLAYING:
-        return REFUSED
-    # A made-up answer would pass for a true one: what is not built yet fails.
-    raise NotBuilt(f"call {number} is not built yet")
+    return play(game, call[1])
+
+
+def tell(game, call):
+    if call[0] == LEGAL:
+        return legal(game)
+    if call[0] == HAND:
+        return hand(game, call[1])
+    if call[0] == STATE:
+        return state(game)
+    if call[0] == RESULT:
+        return result(game)
+    return [sure(game)]

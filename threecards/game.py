@@ -13,6 +13,14 @@ class Game:
         self.hearer = 0
         self.bid = 0
         self.alone = NOBODY
+        # The cards that the one who plays alone had with the two: tops are counted when these are played long since.
+        self.had = 0
         self.from_hand = False
         self.declared = None
         self.said = 0
+        self.leader = 0
+        self.trick = []
+        # Cards and tricks that the one who plays alone has taken.
+        self.taken = 0
+        self.tricks = 0
+        self.ending = None

@@ -1,7 +1,8 @@
-"""The numbers that calls answer with, by name."""
+"""The numbers that calls tell and answer, by name."""
 
 DONE = 0
 REFUSED = -1
+TOO_MANY_CARDS = -2
 NO_GAME = -4
 
 VALUE_AWAITED = 0
@@ -13,4 +14,15 @@ DECLARATION_AWAITED = 5
 PLAYING = 6
 OVER = 7
 
+PLAYERS = 3
 NOBODY = 3
+AWAY = 3
+
+GAMES = (0, 1, 2, 3, 4, 5)
+GRAND = 4
+NULL = 5
+
+# What is announced is a sum of these.
+SAID_SCHNEIDER = 1
+SAID_SCHWARZ = 2
+SAID_OPEN = 4
